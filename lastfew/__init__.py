@@ -1,0 +1,1 @@
+"""What the last few things of a row come to."""
