@@ -2,7 +2,8 @@
 
 Where a rule says "best none" or "best don't", or can be read more than one way, the narrower reading is held:
 no annotations, no docstring but a file's, no method with two underscores but __init__.
-What reading can't tell is not told: how deep a recursion goes (L11), what another name for a list does (L15).
+Not seen are: how deep a recursion goes (L11), what another name for a list or a set does (L15, L23, L24),
+what an error taken by name was raised by (L19), and which kind of value a method is called on (L25).
 """
 
 import ast
@@ -321,6 +322,14 @@ def def_faults(package, source):
             yield "L21", node.lineno, "an annotation"
         if node.end_lineno - node.lineno + 1 > 40:
             yield "L10", node.lineno, "a function of more than 40 lines"
+        outer = source.outermost(node)
+        if outer is not node:
+            inner = set(ast.walk(node))
+            around = {name for item in ast.walk(outer) if item not in inner for name in bound(source, item)}
+            for item in inner:
+                target = isinstance(item, ast.Name) and isinstance(item.ctx, ast.Store)
+                if target and item.id in around:
+                    yield "L4", item.lineno, f"{item.id} of the def around is assigned"
     shapes = [(node.lineno, ast.unparse(node.args)) for node in source.of(ast.Lambda)]
     for shape in set(shapes):
         if shapes.count(shape) > 1:
@@ -520,9 +529,16 @@ def taken_faults(package, source):
         if not (name and (package.is_class(source, name) or name in ERRORS)):
             yield "L19", node.lineno, "an error that is not made on the spot"
         cause = node.cause
-        handled = isinstance(cause, ast.Name) or isinstance(cause, ast.Constant) and cause.value is None
-        if cause is not None and not handled:
+        handled = isinstance(cause, ast.Name) and cause.id == handler_name(source, node)
+        empty = isinstance(cause, ast.Constant) and cause.value is None
+        if cause is not None and not handled and not empty:
             yield "L19", node.lineno, "raised from what is no handler's error"
+
+
+def handler_name(source, node):
+    while node is not None and not isinstance(node, ast.ExceptHandler):
+        node = source.parents.get(node)
+    return node.name if node is not None else None
 
 
 def is_narrow(body, name):
@@ -562,6 +578,8 @@ def call_faults(package, source):
             method = isinstance(node.func, ast.Attribute) and node.func.attr in METHODS
             if method or own and keyword.arg not in KEYWORDS.get(name, set()):
                 yield "L22", node.lineno, "a keyword at a name of Python's own"
+            elif own and keyword.arg == "key" and not isinstance(keyword.value, (ast.Lambda, ast.Name, ast.Attribute)):
+                yield "L22", node.lineno, "a key that is no def, lambda or method"
             elif own and keyword.arg in ("reverse", "strict") and not isinstance(keyword.value, ast.Constant):
                 yield "L22", node.lineno, f"{keyword.arg} is not written True or False"
 
